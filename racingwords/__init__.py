@@ -1,0 +1,1 @@
+"""Waiting for words in random letter sequences (Penney's game), exactly."""
