@@ -6,6 +6,10 @@ BEGIN = 0
 WORD = 1
 WAIT = 2
 FIRST = 3
+BY = 4
+AFTER = 5
+REPLY = 6
+RING = 7
 
 
 class UnknownCall(ValueError):
@@ -13,20 +17,25 @@ class UnknownCall(ValueError):
 
 
 def calls_apart(calls):
-    """Return the calls one by one, each as its number and its list (empty if it has none)."""
+    """Return the calls one by one, each as its number and what is handed in with it.
+
+    That is its list, or a list of its plain number, or an empty list if it has neither.
+    """
     apart = []
     place = 0
     while place < len(calls):
         number = calls[place]
-        place = place + 1
-        numbers = []
-        if number in (BEGIN, WORD, WAIT):
-            end = place + 1 + calls[place]
-            numbers = calls[place + 1:end]
-            place = end
+        start = place + 1
+        end = start
+        if number in (BEGIN, WORD, WAIT, AFTER, REPLY):
+            start = place + 2
+            end = start + calls[place + 1]
+        elif number in (BY, RING):
+            end = start + 1
         elif number != FIRST:
             raise UnknownCall(f"unknown call {number}")
-        apart.append((number, numbers))
+        apart.append((number, calls[start:end]))
+        place = end
     return apart
 
 
@@ -38,6 +47,14 @@ def answer(session, number, numbers):
         return session.word(numbers)
     if number == WAIT:
         return session.wait(numbers)
+    if number == BY:
+        return session.by(numbers[0])
+    if number == AFTER:
+        return session.after(numbers)
+    if number == REPLY:
+        return session.reply(numbers)
+    if number == RING:
+        return session.ring(numbers[0])
     return session.first()
 
 

@@ -15,11 +15,27 @@ def are_weights(numbers):
     return all([LEAST_WEIGHT <= number <= GREATEST_WEIGHT for number in numbers])
 
 
+def are_letters(numbers, weights):
+    """Tell whether each of the numbers is one of the letters with these weights."""
+    return all([0 <= number < len(weights) for number in numbers])
+
+
 def is_word(numbers, weights):
     """Tell whether the numbers are a word of letters with these weights."""
     if len(numbers) < SHORTEST_WORD or len(numbers) > LONGEST_WORD:
         return False
-    return all([0 <= number < len(weights) for number in numbers])
+    return are_letters(numbers, weights)
+
+
+def words_of_length(length, letter_count):
+    """Return all words of the length in their order."""
+    words = [[]]
+    for place in range(length):
+        longer = []
+        for word in words:
+            longer.extend([word + [letter] for letter in range(letter_count)])
+        words = longer
+    return words
 
 
 def ends_with(sequence, part):
@@ -42,6 +58,15 @@ def word_at_end(words, sequence):
     for number, word in enumerate(words):
         if ends_with(sequence, word):
             return number
+    return None
+
+
+def first_occurrence(words, sequence):
+    """Return the word that occurs first, as its number and how many letters it took, or None."""
+    for count in range(1, len(sequence) + 1):
+        number = word_at_end(words, sequence[:count])
+        if number is not None:
+            return (number, count)
     return None
 
 

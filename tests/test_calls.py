@@ -16,6 +16,22 @@ class Examples(unittest.TestCase):
         self.assertEqual(answers([1, 3, 0, 1, 0, 1, 3, 0, 0, 1, 3]),
                          [1, 0, 1, 1, 7, 2, 6, 1, 1, 3, 2, 3])
 
+    def test_after_a_number_of_letters(self):
+        self.assertEqual(answers([1, 3, 0, 1, 0, 1, 3, 0, 0, 1, 4, 4]),
+                         [1, 0, 1, 1, 7, 2, 9, 16, 3, 16, 1, 4])
+
+    def test_after_some_letters(self):
+        self.assertEqual(answers([1, 3, 0, 1, 0, 1, 3, 0, 0, 1, 5, 2, 0, 1, 5, 5, 1, 0, 0, 1, 0]),
+                         [1, 0, 1, 1, 7, 2, 4, 1, 2, 3, 1, 3, 3, -7, 1, 4])
+
+    def test_replying_and_rings(self):
+        self.assertEqual(answers([6, 3, 0, 0, 0, 7, 2, 7, 3]),
+                         [6, 0, 7, 8, 1, 0, 0, 1, -11, 13, 4, 0, 0, 1, 0, 1, 1, 1, 1, 0, 1, 0, 0])
+
+    def test_replying_and_rings_with_other_weights(self):
+        self.assertEqual(answers([0, 2, 1, 2, 6, 2, 0, 1, 7, 3]),
+                         [1, 3, 5, 0, 2, 3, 1, 0, 10, 3, 0, 1, 1, 1, 1, 0, 1, 0, 1])
+
     def test_refusing(self):
         self.assertEqual(answers([1, 3, 0, 1, 0, 1, 2, 1, 0, 1, 2, 0, 2]), [1, 0, 2, -6, 0, 1, -1])
 
@@ -28,6 +44,10 @@ class Calls(unittest.TestCase):
         self.assertEqual(answers([0, 3, 1, 2, 3]), [1, 6])
         self.assertEqual(answers([1, 1, 0, 1, 1, 0]), [1, 0, 2, -6, 0])
         self.assertEqual(answers([2, 0, 2, 1, 0]), [1, -1, 3, 0, 2, 1])
+        self.assertEqual(answers([4, 0, 4, 31]), [1, -11, 1, -1])
+        self.assertEqual(answers([1, 1, 0, 5, 0, 5, 1, 1, 5, 1, 0]),
+                         [1, 0, 5, 1, 2, 1, 1, 1, 5, 1, 2, 1, 1, 1, 3, -7, 0, 1])
+        self.assertEqual(answers([6, 0, 6, 1, 1, 7, 0, 7, 1]), [1, -1, 4, 0, 1, 2, 0, 1, -1, 1, -11])
 
     def test_refused_lists_are_gone_over_whole(self):
         # The numbers of a refused list look like calls; none of them may be taken for one.
@@ -35,6 +55,8 @@ class Calls(unittest.TestCase):
         self.assertEqual(answers([1, 8, 3, 3, 3, 3, 3, 3, 3, 3, 1, 1, 0]), [1, -1, 1, 0])
         self.assertEqual(answers([2, 6, 0, 2, 1, 1, 1, 0, 1, 0, 3]), [1, -1, 1, -1, 1, -11])
         self.assertEqual(answers([1, 0, 2, 0, 0, 0, 3]), [1, -1, 1, -1, 1, -1, 1, -11])
+        self.assertEqual(answers([5, 24] + [3] * 24 + [6, 8] + [7] * 8 + [5, 0, 6, 0, 3]),
+                         [1, -1, 1, -1, 1, -11, 1, -1, 1, -11])
 
     def test_starts_with_two_letters_of_weight_1_and_no_words(self):
         self.assertEqual(ask(first(), wait(0), wait(1), wait(2), word(2)),

@@ -1,28 +1,11 @@
 """first: the time of the race and the probability of each word."""
 
-import random
 import unittest
 from fractions import Fraction
 from itertools import permutations
 
-from asking import (all_words, ask, ask_last, begin, ended_within, expected, first, fits, fractions,
-                    race, time_and_chances, wait, word)
-
-
-def some_races(seed, count):
-    """Return races: weights and 1 to 4 words, the same ones each time."""
-    choose = random.Random(seed)
-    races = []
-    while len(races) < count:
-        weights = [choose.randint(1, 10) for letter in range(choose.choice((2, 3)))]
-        words = []
-        for attempt in range(choose.choice((1, 2, 4, 8))):
-            length = choose.choice((1, 2, 3, 3, 4, 4, 5, 5))
-            letters = tuple(choose.randrange(len(weights)) for place in range(length))
-            if fits(words, letters) and len(words) < 4:
-                words.append(letters)
-        races.append((weights, words))
-    return races
+from asking import (all_words, ask, ask_last, begin, ended_within, exchanges, expected, first, fractions,
+                    race, some_races, time_and_chances, wait, word)
 
 
 class First(unittest.TestCase):
@@ -113,10 +96,8 @@ class First(unittest.TestCase):
     def test_exchanged_letters(self):
         for weights, words in some_races(4, 100):
             plain = race(weights, *words)
-            for order in permutations(range(len(weights))):
-                other = [weights[letter] for letter in order]
-                exchanged = [[order.index(letter) for letter in letters] for letters in words]
-                self.assertEqual(race(other, *exchanged), plain, (weights, words, order))
+            for other, exchanged in exchanges(weights, *words):
+                self.assertEqual(race(other, *exchanged), plain, (weights, words, other))
 
     def test_multiplied_weights(self):
         for words in ([(0, 1, 0), (0, 0, 1)], [(0, 0), (1,)], [(1, 1, 0, 1, 0)]):

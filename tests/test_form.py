@@ -115,6 +115,16 @@ class Form(unittest.TestCase):
                 if isinstance(node, ast.Name) and node.id not in bound:
                     self.assertIn(node.id, BUILTINS, (name, node.lineno))
 
+    def test_locals_are_not_called_like_imports_or_classes(self):
+        for name, tree in trees():
+            shared = {alias.name for node in tree.body if isinstance(node, ast.ImportFrom) for alias in node.names}
+            shared.update(node.name for node in tree.body if isinstance(node, ast.ClassDef))
+            for node in ast.walk(tree):
+                if isinstance(node, ast.arg):
+                    self.assertNotIn(node.arg, shared, (name, node.lineno))
+                if isinstance(node, ast.Name) and isinstance(node.ctx, ast.Store):
+                    self.assertNotIn(node.id, shared, (name, node.lineno))
+
     def test_methods(self):
         own = set()
         for name, tree in trees():
